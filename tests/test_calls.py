@@ -2,18 +2,11 @@
 
 import unittest
 
-from tests.helper import (A, B, E, LONG, P, Q, STATION, W, ask, box_after, cancel, enter, go, last, read, run,
-                          state, throw)
+from tests.helper import (A, B, E, LONG, P, Q, STATION, W, Calls, ask, box_after, cancel, enter, go, last, read, run,
+                          tell_point, tell_section, tell_set, tell_signal, tell_train, throw, turn)
 from yardbox.box import answers
 
 BIG = 4294967295
-
-
-class Calls(unittest.TestCase):
-    def assert_refused(self, before, call, answer):
-        """The call is refused so, and leaves the box as it was."""
-        self.assertEqual(last(*before, call), answer)
-        self.assertEqual(state(box_after(*before, call)), state(box_after(*before)))
 
 
 class Enter(Calls):
@@ -214,6 +207,20 @@ class Interface(unittest.TestCase):
         calls = [0, len(plan)] + plan + [1, 0, 0, 1, 1, 0, 0, 1, 5, 0, 2, 0, 3, 0, 4, 0]
         self.assertEqual(answers(calls), [1, 1, 1, 0, 1, -3, 1, -3, 1, -4, 1, -4, 1, -4])
 
+    def test_the_numbers_of_the_calls_that_turn_and_tell(self):
+        calls = read(*STATION) + [1, 7, 0, 3, 2, 1, 5, 7, 5, 7]
+        told = [1, 6, 1, 0, 1, 0, 2, 1, P, 2, 1, B]
+        self.assertEqual(answers(calls), told)
+        calls += [6, 7, 7, 7, 2, 6, 8, 0, 8, 2, 8, 5, 9, 1, 9, 4, 10, 5, 10, 0, 11, 8, 3]
+        told += [1, 0, 6, 3, W, P, B, 0, 0, 1, 0, 2, 2, 7, 2, 1, 6, 1, 0, 1, 2, 1, 1, 2, 1, 6, 1, 0, 2, 1, 6, 2, 2, 7]
+        self.assertEqual(answers(calls), told)
+
+    def test_set_has_no_argument(self):
+        self.assertEqual(answers([11]), [1, 0])
+        self.assertEqual(answers([11, 11, 11]), [1, 0] * 3)
+        self.assertEqual(answers([11, 7, 11, 11, 10, 11]), [1, 0, 1, -4, 1, 0, 1, -4])
+        self.assertEqual(answers(read(*STATION) + [2, 7, 2, 0, 11, 2, 9]), [1, 6, 1, 0, 1, 0, 3, 2, 0, 7, 1, -4])
+
     def test_refusals_that_tell_more(self):
         faulty = [0, 1, 10]
         self.assertEqual(answers(faulty), [3, -6, 0, 1])
@@ -227,30 +234,49 @@ class Interface(unittest.TestCase):
         self.assertEqual(answers([0, 3, 0, 5, 1, 5, 0]), [3, -6, 0, 1, 1, -4])
 
     def test_what_is_handed_in_is_not_changed(self):
-        calls = read(*STATION) + enter(0, 0, 2) + ask(1) + go(0) + go(0) + cancel(1) + throw(P)
+        calls = read(*STATION) + enter(0, 0, 2) + ask(1) + go(0) + go(0) + cancel(1) + throw(P) + enter(1, 1) + turn(1)
+        calls += tell_train(0) + tell_section(P) + tell_point(P) + tell_signal(0) + tell_set()
         kept = list(calls)
         answers(calls)
         self.assertEqual(calls, kept)
 
     def test_nothing_is_kept_from_one_time_to_the_next(self):
-        calls = read(*STATION) + enter(0, 0, 2) + ask(1) + go(0)
+        calls = read(*STATION) + enter(0, 0, 2) + turn(0) + turn(0) + ask(1) + go(0) + throw(Q) + ask(6) + tell_set()
         first = answers(calls)
         first_again = list(first)
         second = answers(calls)
         self.assertEqual(first, second)
         second.append(0)
         self.assertEqual(first, first_again)
-        self.assertEqual(answers(ask(0) + go(0) + enter(0, 0)), [1, -4, 1, -4, 1, -4])
+        other = ask(0) + go(0) + enter(0, 0) + turn(0) + tell_train(0) + tell_section(0) + tell_point(P)
+        self.assertEqual(answers(other + tell_signal(0) + tell_set()), [1, -4] * 8 + [1, 0])
 
     def test_whole_numbers_alone_are_answered(self):
         calls = read(*STATION) + enter(0, 0) + ask(0) + ask(0) + go(0) + throw(Q) + cancel(0) + [0, 1, 65]
+        calls += ask(7) + tell_train(0) + tell_section(P) + tell_section(A) + tell_section(W) + tell_point(P)
+        calls += tell_signal(0) + tell_signal(5) + tell_set() + turn(0) + tell_train(1)
         told = answers(calls)
         self.assertIs(type(told), list)
         self.assertEqual({type(number) for number in told}, {int})
 
     def test_the_most_calls_and_the_longest_list(self):
-        self.assertEqual(len(run(*[go(0)] * 400)), 400)
+        for call in (go(0), turn(0), tell_train(0), tell_section(0), tell_point(0), tell_signal(0)):
+            self.assertEqual(run(*[call] * 400), [[-4]] * 400)
+        self.assertEqual(run(*[tell_set()] * 400), [[0]] * 400)
         self.assertEqual(run([0, 29000] + [10] * 29000), [[-2]])
+
+    def test_every_call_answers_before_a_plan_is_read(self):
+        calls = (enter(0, 0), ask(0), cancel(0), throw(0), go(0), turn(0), tell_train(0), tell_section(0),
+                 tell_point(0), tell_signal(0))
+        for plan in ((), (read(),)):
+            self.assertEqual(run(*plan, *calls, tell_set())[len(plan):], [[-4]] * 10 + [[0]])
+            self.assertEqual(run(*plan, enter(8, 0, 0), enter(0, 0, 4))[len(plan):], [[-1], [-1]])
+
+    def test_every_call_answers_to_the_highest_number(self):
+        for plan in ((), (read(*STATION), enter(0, 0), ask(0))):
+            for number in range(2, 11):
+                self.assertEqual(last(*plan, [number, BIG]), [-4])
+            self.assertEqual(last(*plan, enter(BIG, BIG, BIG)), [-1])
 
 
 if __name__ == "__main__":

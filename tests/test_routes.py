@@ -30,7 +30,7 @@ def random_plan(rng):
 
 
 def routes_by_the_words(lines):
-    """The routes of a plan, found anew from its lines by the document's words, each as its (name, end) pairs."""
+    """The routes of a plan, found anew from its lines by the document's words: each its signal's end and its ends."""
     words = [line.split() for line in lines]
     kinds = {word[1]: word[0] for word in words if word[0] in ("plain", "point", "cross")}
     order = list(kinds)
@@ -66,7 +66,12 @@ def routes_by_the_words(lines):
 
     signals = [as_end(word[1]) for word in words if word[0] == "signal"]
     signals.sort(key=lambda end: (order.index(end[0]), end[1]))
-    return [[(order.index(name), end) for name, end in way] for signal in signals for way in onward(signal, [signal[0]])]
+
+    def numbered(end):
+        return (order.index(end[0]), end[1])
+
+    return [(numbered(signal), [numbered(end) for end in way])
+            for signal in signals for way in onward(signal, [signal[0]])]
 
 
 class Routes(unittest.TestCase):
@@ -154,7 +159,7 @@ class Routes(unittest.TestCase):
                 self.assertEqual(run(read(*lines)), [[-9]])
                 continue
             box = box_after(read(*lines))
-            self.assertEqual([route.ends for route in box.routes], expected, lines)
+            self.assertEqual([(route.signal_end, route.ends) for route in box.routes], expected, lines)
             seen += len(expected)
         self.assertGreater(seen, 600)
 

@@ -1,4 +1,4 @@
-"""The box: it reads a plan, lets trains enter and go, sets and cancels routes, and throws points."""
+"""The box: it reads a plan, lets trains enter, go and turn, sets and cancels routes, throws points, and tells."""
 
 from yardbox.plan import POINT, Plan, fill_plan
 from yardbox.routes import routes_of
@@ -9,6 +9,12 @@ ASK = 2
 CANCEL = 3
 THROW = 4
 GO = 5
+TURN = 6
+TELL_TRAIN = 7
+TELL_SECTION = 8
+TELL_POINT = 9
+TELL_SIGNAL = 10
+TELL_SET = 11
 
 LONGEST_TEXT = 1024
 MOST_ROUTES = 64
@@ -21,8 +27,11 @@ REVERSE = 2
 
 DONE = 0
 CAME_IN = 1
+FREE = 0
 BY_LOCK = 1
 BY_TRAIN = 2
+SHOWS_NONE = 0
+SHOWS_ONE = 1
 
 OUT_OF_RANGE = -1
 TEXT_TOO_LONG = -2
@@ -30,6 +39,7 @@ SHOWS_NO_ROUTE = -2
 THERE_ALREADY = -3
 NOT_SET = -3
 NO_WAY_ON = -3
+MAY_NOT_TURN = -3
 NONE_SUCH = -4
 NOT_FREE = -5
 NO_PLAN = -6
@@ -37,8 +47,8 @@ TOO_MANY_ROUTES = -9
 
 
 class Train:
-    # For each section that it is in, the foremost first: the end for which it heads or headed there. The
-    # sections ahead are told likewise, the next one first. An end tells its section, and what was behind it.
+    # For each section that it is in, the foremost first: the end that lies toward its front, which in the
+    # foremost is that for which it heads. The sections ahead are told likewise, the next one first.
     def __init__(self, length, end):
         self.length = length
         self.ends = [end]
@@ -69,11 +79,11 @@ class Box:
     def is_set(self, number):
         return all([self.locked_for[section] == number for section in self.routes[number].sections])
 
-    # The route that the signal at this end shows, or None.
+    # The number of the route that the signal at this end shows, or None.
     def shown_route(self, end):
         for number, route in enumerate(self.routes):
             if route.signal_end == end and self.is_set(number):
-                return route
+                return number
         return None
 
     def read(self, text):
@@ -145,10 +155,10 @@ class Box:
             return self.leave_by_border(number)
         if end not in self.plan.signals:
             return [NO_WAY_ON]
-        route = self.shown_route(end)
-        if route is None:
+        shown = self.shown_route(end)
+        if shown is None:
             return [SHOWS_NO_ROUTE]
-        train.ahead = list(route.ends)
+        train.ahead = list(self.routes[shown].ends)
         return self.come_into_section(number)
 
     # The train takes its next step ahead.
@@ -168,6 +178,58 @@ class Box:
         for end in train.ends:
             self.train_in[end[0]] = None
         return [DONE]
+
+    def turn(self, number):
+        if number not in self.trains:
+            return [NONE_SUCH]
+        train = self.trains[number]
+        if len(train.ahead) > 0 or not self.plan.is_plain(train.ends[-1]):
+            return [MAY_NOT_TURN]
+        train.ends = self.ends_come_in_by(train.ends)
+        return [DONE]
+
+    # For each section of a train whose last one is plain, the last one first: the end by which it came in there.
+    def ends_come_in_by(self, ends):
+        last = ends[-1]
+        # What it came from may be left long since, but a plain section has just one other end.
+        came_by = [(last[0], 1 - last[1])]
+        for end in reversed(ends[1:]):
+            came_by.append(self.plan.joined[end])
+        return came_by
+
+    def tell_train(self, number):
+        if number not in self.trains:
+            return [NONE_SUCH]
+        train = self.trains[number]
+        sections = [end[0] for end in train.ends]
+        return [len(sections)] + sections + [train.ends[0][1], len(train.ahead)]
+
+    def tell_section(self, section):
+        if section >= len(self.plan.kinds):
+            return [NONE_SUCH]
+        if self.locked_for[section] is not None:
+            return [BY_LOCK, self.locked_for[section]]
+        if self.train_in[section] is not None:
+            return [BY_TRAIN, self.train_in[section]]
+        return [FREE]
+
+    def tell_point(self, section):
+        if not self.is_point(section):
+            return [NONE_SUCH]
+        return [self.lies[section]]
+
+    def tell_signal(self, number):
+        if number >= len(self.plan.signals):
+            return [NONE_SUCH]
+        shown = self.shown_route(self.plan.signals[number])
+        if shown is None:
+            return [SHOWS_NONE]
+        return [SHOWS_ONE, shown]
+
+    # A route is told as long as some section is locked for it, though a train has come into others of its own.
+    def tell_set(self):
+        locked = [number for number in range(len(self.routes)) if number in self.locked_for]
+        return [len(locked)] + locked
 
 
 # Answers the calls on one new box: for each, how many numbers are answered, then these.
@@ -191,9 +253,12 @@ def first_argument(calls, place):
 
 
 def argument_count(calls, place):
-    if calls[place] == READ:
+    call = calls[place]
+    if call == READ:
         return calls[place + 1]
-    return 3 if calls[place] == ENTER else 1
+    if call == ENTER:
+        return 3
+    return 0 if call == TELL_SET else 1
 
 
 def answer_to(box, call, arguments):
@@ -209,4 +274,15 @@ def answer_to(box, call, arguments):
         return box.throw(arguments[0])
     if call == GO:
         return box.go(arguments[0])
-    raise NotImplementedError("only the calls 0 to 5 are built")
+    if call == TURN:
+        return box.turn(arguments[0])
+    if call == TELL_TRAIN:
+        return box.tell_train(arguments[0])
+    if call == TELL_SECTION:
+        return box.tell_section(arguments[0])
+    if call == TELL_POINT:
+        return box.tell_point(arguments[0])
+    if call == TELL_SIGNAL:
+        return box.tell_signal(arguments[0])
+    # No number is left but that of set.
+    return box.tell_set()
